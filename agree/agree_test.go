@@ -1,6 +1,7 @@
 package agree_test
 
 import (
+	"fmt"
 	"math"
 	"slices"
 	"testing"
@@ -108,15 +109,21 @@ func middle(l []int, f int) int {
 	return m
 }
 
+// told is a list as a text that is not too long to read.
+func told(l any) string {
+	s := fmt.Sprint(l)
+	return s[:min(len(s), 400)]
+}
+
 // midpoint checks Midpoint: what it answers, and that the numbers stay as they were.
 func midpoint(t *testing.T, l []int, f, want int) {
 	t.Helper()
 	given, whole := spare(l)
 	if m, err := agree.Midpoint(given, f); err != nil || m != want {
-		t.Errorf("Midpoint(%.200v, %d): %d, %v, want %d", l, f, m, err, want)
+		t.Errorf("Midpoint(%s, %d): %d, %v, want %d", told(l), f, m, err, want)
 	}
 	if !whole() {
-		t.Errorf("Midpoint(%.200v, %d): the numbers read otherwise afterwards", l, f)
+		t.Errorf("Midpoint(%s, %d): the numbers read otherwise afterwards", told(l), f)
 	}
 }
 
@@ -126,10 +133,10 @@ func noMidpoint(t *testing.T, l []int, f int, want api.Errno) {
 	given, whole := spare(l)
 	m, err := agree.Midpoint(given, f)
 	if e, place := plain.Place(err); e != want || place != -1 || m != 0 {
-		t.Errorf("Midpoint(%.200v, %d): %d, error %d at %d, want 0, error %d", l, f, m, e, place, want)
+		t.Errorf("Midpoint(%s, %d): %d, error %d at %d, want 0, error %d", told(l), f, m, e, place, want)
 	}
 	if !whole() {
-		t.Errorf("Midpoint(%.200v, %d): the numbers read otherwise afterwards", l, f)
+		t.Errorf("Midpoint(%s, %d): the numbers read otherwise afterwards", told(l), f)
 	}
 }
 
@@ -138,10 +145,10 @@ func spread(t *testing.T, l []int, want int) {
 	t.Helper()
 	given, whole := spare(l)
 	if n := agree.Spread(given); n != want {
-		t.Errorf("Spread(%.200v): %d, want %d", l, n, want)
+		t.Errorf("Spread(%s): %d, want %d", told(l), n, want)
 	}
 	if !whole() {
-		t.Errorf("Spread(%.200v): the numbers read otherwise afterwards", l)
+		t.Errorf("Spread(%s): the numbers read otherwise afterwards", told(l))
 	}
 }
 
@@ -152,7 +159,7 @@ func round(t *testing.T, clocks []int, rows [][]int, f int, want []int) {
 	r, wholeRows := spareRows(rows)
 	got, err := agree.Round(c, r, f)
 	if err != nil || !slices.Equal(got, want) {
-		t.Errorf("Round(%.200v, %.400v, %d): %v, %v, want %v", clocks, rows, f, got, err, want)
+		t.Errorf("Round(%s, %s, %d): %v, %v, want %v", told(clocks), told(rows), f, got, err, want)
 	}
 	again, _ := agree.Round(c, r, f)
 	got = got[:cap(got)]
@@ -160,10 +167,10 @@ func round(t *testing.T, clocks []int, rows [][]int, f int, want []int) {
 		got[i] = 91
 	}
 	if !wholeClocks() || !wholeRows() {
-		t.Errorf("Round(%.200v, %.400v, %d): what went in reads otherwise afterwards", clocks, rows, f)
+		t.Errorf("Round(%s, %s, %d): what went in reads otherwise afterwards", told(clocks), told(rows), f)
 	}
 	if err == nil && !slices.Equal(again, want) {
-		t.Errorf("Round(%.200v, %.400v, %d): two answers share memory, or are not the same", clocks, rows, f)
+		t.Errorf("Round(%s, %s, %d): two answers share memory, or are not the same", told(clocks), told(rows), f)
 	}
 }
 
@@ -174,10 +181,10 @@ func noRound(t *testing.T, clocks []int, rows [][]int, f int, want api.Errno, at
 	r, wholeRows := spareRows(rows)
 	got, err := agree.Round(c, r, f)
 	if e, place := plain.Place(err); e != want || place != at || got != nil {
-		t.Errorf("Round(%.200v, %.400v, %d): %v, error %d at %d, want none, error %d at %d", clocks, rows, f, got, e, place, want, at)
+		t.Errorf("Round(%s, %s, %d): %v, error %d at %d, want none, error %d at %d", told(clocks), told(rows), f, got, e, place, want, at)
 	}
 	if !wholeClocks() || !wholeRows() {
-		t.Errorf("Round(%.200v, %.400v, %d): what went in reads otherwise afterwards", clocks, rows, f)
+		t.Errorf("Round(%s, %s, %d): what went in reads otherwise afterwards", told(clocks), told(rows), f)
 	}
 }
 
