@@ -616,7 +616,7 @@ func (s step) do(t *testing.T, n *member.Node, l *like) {
 	}
 }
 
-// TestAllShortWays goes through all that may happen to a node of three in five steps.
+// TestAllShortWays goes through all ways of five steps of a node of three, with Back of no members and of all.
 func TestAllShortWays(t *testing.T) {
 	for id := range 3 {
 		steps := []step{{does: "sends"}, {does: "back"}, {does: "back", number: 7}}

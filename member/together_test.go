@@ -270,7 +270,7 @@ func TestWrongAgain(t *testing.T) {
 	}
 }
 
-// TestAllShortBuses goes through all that may happen to three nodes in five slots: whose each is, and how it goes.
+// TestAllShortBuses goes through all ways of five slots of three nodes: whose each is, and how it goes (wrong members have the sender's bit, and the next node's, turned).
 func TestAllShortBuses(t *testing.T) {
 	var choices []slot
 	for from := range 3 {
